@@ -1,0 +1,1 @@
+"""Names of hosts in messages, packed by pointing back."""
