@@ -2,6 +2,9 @@
 
 LONGEST_LABEL = 63
 LONGEST_NAME = 255
+CAPITAL_A = 65
+CAPITAL_Z = 90
+TO_SMALL = 32
 
 
 class NoName(Exception):
@@ -35,3 +38,10 @@ def written(labels):
     if len(name) > LONGEST_NAME:
         raise NoName("a name has more than 255 bytes")
     return name
+
+
+def small(byte):
+    """The byte that stands for this one and all that are the same but for case."""
+    if CAPITAL_A <= byte <= CAPITAL_Z:
+        return byte + TO_SMALL
+    return byte

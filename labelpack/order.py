@@ -1,14 +1,6 @@
 """Names put in order, whether their letters are small or capital."""
 
-CAPITAL_A = 65
-CAPITAL_Z = 90
-TO_SMALL = 32
-
-
-def small(byte):
-    if CAPITAL_A <= byte <= CAPITAL_Z:
-        return byte + TO_SMALL
-    return byte
+from labelpack.names import small
 
 
 def small_label(label):

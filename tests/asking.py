@@ -1,5 +1,7 @@
 """Calls put together for the tests, and their answers taken apart."""
 
+import unittest
+
 from labelpack.desk import answers
 
 NAME_ROOM = 255
@@ -56,6 +58,19 @@ def under(a, b):
     return [4, len(a)] + a + [len(b)] + b
 
 
+def put(row):
+    return [6, len(row)] + row
+
+
+def put_name(pack, name, filler=200):
+    row = handed(name, filler)
+    return [7, pack, len(row)] + row
+
+
+def take(room=65535):
+    return [8, room]
+
+
 def split_answers(told):
     """The answers, a list for each call."""
     parts = []
@@ -81,3 +96,29 @@ def ask_all(*calls):
 def ask(call):
     (only,) = ask_all(call)
     return only
+
+
+def message_of(*calls):
+    """The message that these calls make; each of them answers 0."""
+    *done, taken = ask_all(*calls, take())
+    assert done == [[0]] * len(calls), done
+    assert taken[0] == len(taken) - 1, "the whole message is taken"
+    return taken[1:]
+
+
+def pointer(place):
+    return [192 + place // 256, place % 256]
+
+
+class ListCase(unittest.TestCase):
+    """Lists are told apart by their first difference: unittest's own account of it takes minutes for long ones."""
+
+    def setUp(self):
+        self.addTypeEqualityFunc(list, self.assert_same_list)
+
+    def assert_same_list(self, told, expected, msg=None):
+        if told != expected:
+            place = 0
+            while told[place:place + 1] == expected[place:place + 1]:
+                place += 1
+            self.fail(f"{msg}: from {place} on {told[place:place + 9]}.. and not {expected[place:place + 9]}..")

@@ -2,17 +2,13 @@
 
 import unittest
 
-from asking import ask, codes, long_name, read, wire
+from asking import ask, codes, long_name, pointer, read, wire
 
 REFUSED = [-1]
 
 
 def found(name, behind):
     return [len(name)] + name + [behind]
-
-
-def pointer(place):
-    return [192 + place // 256, place % 256]
 
 
 class NamesWithoutPointers(unittest.TestCase):
